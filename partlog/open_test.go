@@ -123,7 +123,7 @@ type laidCase struct {
 	e     api.Errno
 }
 
-// laidCases are segments that are right, corrupt, torn, with gaps; several of these, too: the first segment that is wrong tells.
+// laidCases are segments that are right, corrupt, torn, with gaps; several of these, too: then ErrCorrupt comes ahead of ErrTorn, and that ahead of ErrGap, wherever in the log they are.
 func laidCases() []laidCase {
 	two, other := batchesBytes(batchesFrom(0, 1, 1)), batchesBytes(batchesFrom(2, 3))
 	last := batchesBytes(batchesFrom(5, 1, 2))
@@ -156,6 +156,14 @@ func laidCases() []laidCase {
 		{"a gap ahead of a torn one", map[int64][]byte{0: two, 5: torn(last)}, api.ErrGap},
 		{"a gap ahead of a corrupt one", map[int64][]byte{0: two, 5: bad(last)}, api.ErrCorrupt},
 		{"a gap ahead of a torn one, not the last", map[int64][]byte{0: two, 5: torn(last), 8: nil}, api.ErrTorn},
+		{"a gap ahead of an empty one, then corrupt", map[int64][]byte{0: nil, 3: nil, 5: bad(nil)}, api.ErrCorrupt},
+		{"a gap, then torn, not the last", map[int64][]byte{0: two, 3: nil, 5: torn(last), 8: nil}, api.ErrTorn},
+		{"a gap, then the last one torn", map[int64][]byte{0: two, 3: nil, 5: torn(last)}, api.ErrGap},
+		{"torn, then a gap", map[int64][]byte{0: torn(two), 5: last}, api.ErrTorn},
+		{"torn, then corrupt", map[int64][]byte{0: torn(two), 2: bad(other), 5: last}, api.ErrCorrupt},
+		{"torn, then the last one corrupt", map[int64][]byte{0: two, 2: torn(other), 5: bad(last)}, api.ErrCorrupt},
+		{"a gap, then torn, then corrupt", map[int64][]byte{0: two, 3: nil, 5: torn(last), 8: bad(nil)}, api.ErrCorrupt},
+		{"corrupt, then a gap", map[int64][]byte{0: bad(two), 5: last}, api.ErrCorrupt},
 		{"corrupt, then torn", map[int64][]byte{0: bad(two), 2: torn(other), 5: last}, api.ErrCorrupt},
 		{"corrupt, and the last one torn", map[int64][]byte{0: bad(two), 2: torn(other)}, api.ErrCorrupt},
 	}
@@ -191,6 +199,48 @@ func TestOpenLaid(t *testing.T) {
 		}
 		wantCheck(t, c.what+": behind Open", d, p.state(), api.OK)
 		wantAppend(t, c.what+": goes on", l, d, p, one())
+	}
+}
+
+// P11.1, P11.4: four segments, each of them right, torn or corrupt, with a gap ahead of it or without one: which error is told hangs on the order that P11.1 names, not on where in the log it is.
+func TestOpenOrder(t *testing.T) {
+	behind := [][]byte{nil, {28, 0, 0}, {27, 0, 0, 0}}
+	whyOf := []api.Errno{api.ErrEnd, api.ErrTorn, api.ErrCorrupt}
+	const segments, kinds = 4, 6
+	met := map[api.Errno]int{}
+	for n := range kinds * kinds * kinds * kinds {
+		d, base, gap := fresh(t), int64(0), false
+		var whys []api.Errno
+		for i := range segments {
+			kind := n % kinds
+			n /= kinds
+			if kind >= len(behind) {
+				base += 2
+				gap = gap || i > 0
+			}
+			kind %= len(behind)
+			lay(t, d, nameOf(base), slices.Concat(batchesBytes(batchesFrom(base, 1)), behind[kind]))
+			whys = append(whys, whyOf[kind])
+			base++
+		}
+		e := orderOf(whys, gap)
+		met[e]++
+		was := d.Copy()
+		want(t, "Check", checkError(d, "p"), e)
+		if e != api.OK {
+			want(t, "Open", openError(d, "p", usual), e)
+			wantUntouched(t, "refused", d, was)
+		} else {
+			both(t, d, usual)
+		}
+		if t.Failed() {
+			t.Fatal(whys, d.Names())
+		}
+	}
+	for _, e := range []api.Errno{api.OK, api.ErrCorrupt, api.ErrTorn, api.ErrGap} {
+		if met[e] == 0 {
+			t.Errorf("%v: never", e)
+		}
 	}
 }
 

@@ -262,22 +262,34 @@ func lookPlain(d *disk.Disk, log string) (parts []plainPart, torn bool, e api.Er
 		}
 	}
 	slices.SortFunc(parts, func(a, b plainPart) int { return cmp.Compare(a.base, b.base) })
+	var whys []api.Errno
+	gap := false
 	for i := range parts {
 		s := &parts[i]
 		b, _ := d.Read(s.name, 0, api.MaxSize)
 		var why api.Errno
 		s.batches, why = batchesIn(b, s.base)
-		torn = why == api.ErrTorn
-		switch {
-		case why == api.ErrCorrupt:
-			return nil, false, api.ErrCorrupt
-		case torn && i+1 < len(parts):
-			return nil, false, api.ErrTorn
-		case i > 0 && s.base != parts[i-1].end():
-			return nil, false, api.ErrGap
-		}
+		whys = append(whys, why)
+		gap = gap || i > 0 && s.base != parts[i-1].end()
 	}
-	return parts, torn, api.OK
+	if e := orderOf(whys, gap); e != api.OK {
+		return nil, false, e
+	}
+	return parts, len(whys) > 0 && whys[len(whys)-1] == api.ErrTorn, api.OK
+}
+
+// orderOf is the order of Open's errors in P11.1's words: ErrCorrupt, of the first one that is corrupt; ErrTorn, of one ahead of the last one that is torn; ErrGap.
+func orderOf(whys []api.Errno, gap bool) api.Errno {
+	torn := slices.Index(whys, api.ErrTorn)
+	switch {
+	case slices.Contains(whys, api.ErrCorrupt):
+		return api.ErrCorrupt
+	case torn >= 0 && torn < len(whys)-1:
+		return api.ErrTorn
+	case gap:
+		return api.ErrGap
+	}
+	return api.OK
 }
 
 // baseOf reads a segment's name, by chapter 10's words.
